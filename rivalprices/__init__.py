@@ -1,0 +1,1 @@
+"""Rivalprices: markets of rival products with straight demands."""
