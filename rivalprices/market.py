@@ -12,6 +12,7 @@ LETTERS = "abcdefghijklmnopqrstuvwxyz"
 OWNER = 1
 BASE = 2
 OWN = 3
+COST = 4
 
 
 def is_name(text):

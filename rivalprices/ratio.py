@@ -5,6 +5,7 @@ from math import gcd
 from rivalprices.errors import InvalidRatio
 
 ZERO = (0, 1)
+ONE = (1, 1)
 
 
 def _is_integer(part):

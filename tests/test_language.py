@@ -21,11 +21,27 @@ INTERFACE = {
     },
     "matrix": {"product": ["rows", "values"], "is_dominant": ["rows"], "solve": ["rows", "right"]},
     "market": {"Market": []},
+    "prices": {
+        "equilibrium": ["market"], "judge": ["market", "prices"], "profit": ["market", "owner", "prices"],
+        "is_lively": ["market"], "buyers_loss": ["market", "prices", "others"],
+    },
+    "mergers": {
+        "merged": ["market", "owner", "other", "name"], "remedy": ["market", "owner", "other", "name", "buyer"],
+        "saved": ["market", "name", "part"], "cost_cut": ["market", "owner", "other", "name"],
+        "alone": ["market", "names"], "smallest_market": ["market", "name", "rise"],
+    },
+    "notation": {
+        "format_ratio": ["value"], "parse_ratio": ["text"], "format_market": ["market"], "parse_market": ["text"],
+    },
+    "session": {"Session": [], "replay": ["text"]},
 }
-MARKET_METHODS = {
-    "__init__": ["products", "rivalries"], "names": [], "owners": [], "owned": ["owner"], "product": ["name"],
-    "cross": ["one", "other"], "rivalries": [], "demands": ["prices"], "with_owners": ["owners"],
-    "with_costs": ["costs"],
+METHODS = {
+    ("market", "Market"): {
+        "__init__": ["products", "rivalries"], "names": [], "owners": [], "owned": ["owner"], "product": ["name"],
+        "cross": ["one", "other"], "rivalries": [], "demands": ["prices"], "with_owners": ["owners"],
+        "with_costs": ["costs"],
+    },
+    ("session", "Session"): {"__init__": ["text"], "run": ["command"], "market": [], "transcript": []},
 }
 
 
@@ -86,11 +102,12 @@ class Interface(unittest.TestCase):
                     self.assertEqual(parameters(defined[name]), arguments, name)
 
     def test_the_methods_stand_in_the_class(self):
-        tree = ast.parse((PACKAGE / "market.py").read_text())
-        body = next(node.body for node in tree.body if isinstance(node, ast.ClassDef) and node.name == "Market")
-        methods = {node.name: parameters(node) for node in body if isinstance(node, ast.FunctionDef)}
-        for name, arguments in MARKET_METHODS.items():
-            self.assertEqual(methods.get(name), ["self", *arguments], name)
+        for (module, owner), listed in METHODS.items():
+            tree = ast.parse((PACKAGE / f"{module}.py").read_text())
+            body = next(node.body for node in tree.body if isinstance(node, ast.ClassDef) and node.name == owner)
+            methods = {node.name: parameters(node) for node in body if isinstance(node, ast.FunctionDef)}
+            for name, arguments in listed.items():
+                self.assertEqual(methods.get(name), ["self", *arguments], name)
 
 
 if __name__ == "__main__":
